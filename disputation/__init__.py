@@ -1,0 +1,1 @@
+"""Disputations by rules: what is laid down, proposed, answered, pressed for, and taken back."""
