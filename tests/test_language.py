@@ -173,7 +173,7 @@ class Language(unittest.TestCase):
             for node in nodes(tree, ast.Compare):
                 for sign, right in zip(node.ops, node.comparators):
                     if isinstance(sign, (ast.Is, ast.IsNot)):
-                        self.assertIn(getattr(right, "value", 0), (None, True, False), (path, node.lineno))
+                        self.assertIn(ast.unparse(right), ("None", "True", "False"), (path, node.lineno))
             for node in nodes(tree, ast.Pow):
                 self.fail(path)
             for node in nodes(tree, ast.Constant):
