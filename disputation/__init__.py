@@ -1,1 +1,1 @@
-"""Disputations by rules: what is laid down, proposed, answered, pressed for, and taken back."""
+"""Disputations by rules: what is laid down, proposed, answered, pressed for, judged, and taken back."""

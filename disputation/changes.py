@@ -4,7 +4,7 @@ Each is handed a state of its own to change, and answers its numbers; the caller
 if the answer is a refusal.
 """
 
-from disputation.judging import bad_answers, verdict_on
+from disputation.judging import bad_answers, is_caught, verdict_on
 from disputation.refusals import CANNOT, LAID_ALREADY, LAID_DOWN, NO_SUCH, NOTHING, TOO_MANY, WRONG
 from disputation.rows import first_row
 from disputation.state import MOST_ANSWERS, answered_by, none_laid, right_while, stands_now, takes, takes_all
@@ -124,7 +124,10 @@ def stock(state, numbers):
 def finish(state, numbers):
     if none_laid(state):
         return [NOTHING]
-    told = [verdict_on(state), len(state.given), len(bad_answers(state))]
+    bad = len(bad_answers(state))
+    told = [verdict_on(state), len(state.given), bad]
+    # What is learnt later doesn't make an answer bad, or right, in a disputation that is over: so it's counted now.
+    state.ended.append((1 if is_caught(state) else 0, bad))
     state.laid = 0
     state.given = []
     return told

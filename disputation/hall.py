@@ -2,8 +2,10 @@
 
 from disputation.changes import is_change, make_change
 from disputation.questions import ask
+from disputation.reckoning import is_reckoned, reckon
 from disputation.refusals import NOT_BEGUN, NOTHING, WRONG
 from disputation.state import State
+from disputation.verdicts import is_verdict, judge
 from disputation.worlds import is_proposition
 
 BEGIN = 0
@@ -11,12 +13,16 @@ STOCK = 9
 BACK = 11
 AGAIN = 12
 ROW = 14
+STATE = 42
 
 MOST_LETTERS = 3
 MOST_TAKEN_BACK = 20
 
 # By a call's number: how many whole numbers it has. Those of stock and row stand in their lists.
-SIZES = (2, 1, 1, 1, 2, 1, 1, 2, 1, 0, 0, 0, 0, 1, 0, 0, 1, 1, 1, 1, 0, 2)
+SIZES = (
+    2, 1, 1, 1, 2, 1, 1, 2, 1, 0, 0, 0, 0, 1, 0, 0, 1, 1, 1, 1, 0, 2, 0,
+    0, 0, 0, 0, 0, 0, 1, 0, 1, 0, 2, 0, 0, 1, 1, 2, 2, 2, 0, 0,
+)
 
 
 class Hall:
@@ -36,8 +42,14 @@ class Hall:
             return self.back()
         if number == AGAIN:
             return self.again()
+        if number == STATE:
+            return self.told_state()
         if is_change(number):
             return self.change(number, numbers)
+        if is_verdict(number):
+            return judge(self.now, number, numbers)
+        if is_reckoned(number):
+            return reckon(self.now, number, numbers)
         return ask(self.now, number, numbers)
 
     def begin(self, letters, known):
@@ -73,6 +85,11 @@ class Hall:
         self.earlier.append(self.now)
         self.now = self.undone.pop()
         return [len(self.undone)]
+
+    def told_state(self):
+        now = self.now
+        told = [now.letters, now.known, now.rule, now.laid, len(now.given), len(self.earlier), len(self.undone)]
+        return told + now.stock
 
 
 def answers(calls):

@@ -1,8 +1,8 @@
-"""The calls that only ask, from right to from_stock."""
+"""The calls that only ask what is so now or can be made so, from right to reach."""
 
 from disputation.judging import is_bad
 from disputation.refusals import CANNOT, NO_SUCH, NOTHING, WRONG
-from disputation.rows import can_be_conceded, first_row, first_stock_row
+from disputation.rows import can_be_conceded, first_row, first_stock_row, reached_by_rule_0
 from disputation.state import (
     all_propositions, answered_by, none_laid, right_while, stands_after_right, stands_now, takes, takes_all,
 )
@@ -103,6 +103,12 @@ def from_stock(state, numbers):
     return [len(found)] + found
 
 
+def reach(state, numbers):
+    if none_laid(state):
+        return [NOTHING]
+    return [reached_by_rule_0(state)]
+
+
 QUESTIONS = {
     13: right,
     14: row,
@@ -113,6 +119,7 @@ QUESTIONS = {
     19: may,
     20: false,
     21: from_stock,
+    22: reach,
 }
 
 

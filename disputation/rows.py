@@ -28,19 +28,34 @@ def can_be_conceded(state, t):
     return so_in_all(now & state.known, t) and not so_in_none(now, t)
 
 
-def first_stock_row(state, t, wanted):
-    """The first of the shortest rows of the stock, by places, behind which t is answered so; None if none."""
+def stock_rows(state):
+    """What can stand behind a row of the stock: by the worlds the first of the shortest such rows, as places.
+
+    Shorter rows come first, and of those as long the ones with earlier places.
+    """
+    rows = {stands_now(state): []}
     reached = [stands_now(state)]
-    ways = [[]]
     at = 0
-    # Shorter rows come first, and of those as long the ones with earlier places: the first hit is the one.
     while at < len(reached):
-        if right_while(state, reached[at], t) == wanted:
-            return ways[at]
         for place, q in enumerate(state.stock):
             then = stands_after_right(state, reached[at], q)
-            if then not in reached:
+            if then not in rows:
+                rows[then] = rows[reached[at]] + [place]
                 reached.append(then)
-                ways.append(ways[at] + [place])
         at = at + 1
+    return rows
+
+
+def first_stock_row(state, t, wanted):
+    """The first of the shortest rows of the stock, by places, behind which t is answered so; None if none."""
+    for stands, places in stock_rows(state).items():
+        if right_while(state, stands, t) == wanted:
+            return places
     return None
+
+
+def reached_by_rule_0(state):
+    """How many sets of worlds can stand behind a row of the stock, were it answered by rule 0."""
+    tried = state.twin()
+    tried.rule = 0
+    return len(stock_rows(tried))

@@ -6,7 +6,8 @@ MOST_ANSWERS = 8
 
 
 class State:
-    """Letters, known worlds, rule, what is laid down (0: nothing), answers given, stock."""
+    """Letters, known worlds, rule, what is laid down (0: nothing), answers given, stock; of each disputation
+    that is over if one was caught (1 or 0) and how many answers were bad."""
 
     def __init__(self, letters, known):
         self.letters = letters
@@ -15,6 +16,7 @@ class State:
         self.laid = 0
         self.given = []
         self.stock = []
+        self.ended = []
 
     def twin(self):
         other = State(self.letters, self.known)
@@ -22,6 +24,7 @@ class State:
         other.laid = self.laid
         other.given = list(self.given)
         other.stock = list(self.stock)
+        other.ended = list(self.ended)
         return other
 
 

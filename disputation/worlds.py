@@ -11,6 +11,10 @@ AGAINST = 2
 # By how many letters there are: the proposition that is so in every world, the greatest one.
 ALWAYS = (0, 3, 15, 255)
 
+# By a letter's number: the proposition that it is so, were there three letters. The worlds of fewer letters are
+# the first ones of these.
+LETTERS = (170, 204, 240)
+
 
 def always(letters):
     return ALWAYS[letters]
@@ -18,6 +22,14 @@ def always(letters):
 
 def is_proposition(letters, p):
     return p <= ALWAYS[letters]
+
+
+def letter_is_so(letters, i):
+    return LETTERS[i] & ALWAYS[letters]
+
+
+def not_so(letters, p):
+    return ALWAYS[letters] - p
 
 
 def how_many(worlds):

@@ -1,5 +1,6 @@
 """For the tests: lines of calls by name, and a slow reading of the document to compare with."""
 
+import copy
 import functools
 import itertools
 
@@ -7,8 +8,14 @@ from disputation.hall import answers
 
 NAMES = (
     "begin", "rule", "lay", "propose", "answers", "press", "strike", "amend", "learn", "stock", "finish",
-    "back", "again", "right", "row", "stands", "log", "concede", "deny", "may", "false", "from_stock",
+    "back", "again", "right", "row", "stands", "log", "concede", "deny", "may", "false", "from_stock", "reach",
+    "bad", "first", "caught", "mended", "least", "laids", "laid", "knowns", "known", "other", "clash", "clashes",
+    "verdict", "letter", "not_of", "both", "either", "if_then", "sums", "state",
 )
+CHANGES = NAMES[1:11]
+ASKED = NAMES[13:]
+# Those that answer -6, behind -22, where nothing is laid down.
+JUDGED = NAMES[22:36]
 LISTED = ("stock", "row")
 TOP = 4294967295
 
@@ -49,14 +56,16 @@ def last(*calls):
     return ask(*calls)[-1]
 
 
-# These show every part of what is held; where one of their answers differs, something else is held.
+# These show all that is held, but how many changes can be taken back or done again.
 LOOKS = (
-    [("stands",)] + [("log", i) for i in range(8)] + [("from_stock", a, 1) for a in range(3)]
-    + [("from_stock", a, 2) for a in range(3)] + [("row", [1, 2, 3, 0]), ("false",)]
-    + [("finish",), ("rule", 0), ("lay", 3), ("from_stock", 1, 2), ("learn", 3)]
+    [("sums",), ("stands",)] + [("log", i) for i in range(8)]
+    + [(name,) for name in ("reach", "bad", "mended", "least", "laids", "knowns", "other", "clashes", "verdict")]
+    + [("finish",), ("sums",), ("rule", 0), ("lay", 3), ("from_stock", 1, 2), ("learn", 3)]
 )
-# And these show how many changes can be taken back or done again, and some of what was held before them.
-PROBES = [("again",), ("again",), ("back",), ("back",), ("back",), ("stands",), ("again",)] + LOOKS
+# And these show that, too, and some of what was held before and behind.
+PROBES = (
+    [("state",), ("again",), ("again",), ("back",), ("back",), ("back",), ("state",), ("again",)] + LOOKS
+)
 
 
 def check_refused(case, setup, call, number):
@@ -82,6 +91,7 @@ class Held:
         self.laid = None
         self.log = []
         self.stock = []
+        self.over = []
 
     def set_of(self, p):
         return worlds_of(p)
@@ -139,6 +149,17 @@ class Held:
         p, a = self.log[i]
         return a != self.right(self.log[:i], p)
 
+    def all_bad(self):
+        return [i for i in range(len(self.log)) if self.bad(i)]
+
+    def instead(self, **parts):
+        other = copy.copy(self)
+        vars(other).update(parts)
+        return other
+
+    def struck(self, number):
+        return self.instead(log=[pair for i, pair in enumerate(self.log) if number // 2 ** i % 2 == 0])
+
     def shortest(self, t, a):
         # Where there are few propositions, longer rows than promise 6 allows for are tried, too.
         for size in range({2: 4, 4: 3, 8: 2}[self.worlds]):
@@ -174,12 +195,19 @@ class Reference:
         if name == "again":
             return self.again()
         held = self.held()
-        told = getattr(self, name)(held, *numbers)
+        told = self.told(held, name, numbers)
         if NAMES.index(name) <= 10 and told[0] >= 0:
             self.done.append((name, *numbers))
             self.free = min(20, self.free + 1)
             self.undone = []
         return told
+
+    def told(self, held, name, numbers):
+        if name == "clash" and not all(held.fits(p) for p in numbers):
+            return [-22]
+        if name in JUDGED and held.laid is None:
+            return [-6]
+        return getattr(self, name)(held, *numbers)
 
     def begin(self, m, k):
         if m not in (1, 2, 3) or k >= 2 ** 2 ** m or k == 0:
@@ -298,6 +326,7 @@ class Reference:
         caught = not held.stands(held.log)
         verdict = {(0, 0): 0, (1, 0): 1, (1, 1): 2, (0, 1): 3}[(int(bad > 0), int(caught))]
         told = [verdict, len(held.log), bad]
+        held.over = held.over + [(caught, bad)]
         held.laid, held.log = None, []
         return told
 
@@ -359,7 +388,162 @@ class Reference:
         row = held.shortest_of_stock(t, a)
         return [-33] if row is None else [len(row), *row]
 
+    def reach(self, held):
+        found, more = set(), {held.stands(held.log)}
+        while found != more:
+            found = set(more)
+            for worlds, p in itertools.product(found, held.stock):
+                answer = held.right_by(worlds, p)
+                more.add(worlds & held.set_of(p) if answer == 1 else worlds - held.set_of(p) if answer == 0 else worlds)
+        return [len(found)]
+
+    def bad(self, held):
+        return [len(held.all_bad()), *held.all_bad()]
+
+    def first(self, held):
+        for i in held.all_bad():
+            return [i, held.right(held.log[:i], held.log[i][0])]
+        return [-33]
+
+    def caught(self, held):
+        for many in range(len(held.log) + 1):
+            if not held.stands(held.log[:many]):
+                return [many]
+        return [-33]
+
+    def mended(self, held):
+        log = held.instead(log=[]).behind([p for p, a in held.log])
+        return [len(log), *[a for p, a in log]]
+
+    def least(self, held):
+        good = [number for number in range(2 ** len(held.log)) if not held.struck(number).all_bad()]
+        best = min(good, key=lambda number: (bin(number).count("1"), number))
+        return [bin(best).count("1"), *[i for i in range(8) if best // 2 ** i % 2 == 1]]
+
+    def all_laid(self, held):
+        return [p for p in held.everything() if p > 0 and not held.instead(laid=p).all_bad()]
+
+    def all_known(self, held):
+        return [k for k in held.everything() if k > 0 and not held.instead(known=held.set_of(k)).all_bad()]
+
+    def laids(self, held):
+        return [len(self.all_laid(held))]
+
+    def laid(self, held, k):
+        return (self.all_laid(held)[k:] + [-33])[:1]
+
+    def knowns(self, held):
+        return [len(self.all_known(held))]
+
+    def known(self, held, k):
+        return (self.all_known(held)[k:] + [-33])[:1]
+
+    def other(self, held):
+        return self.bad(held.instead(rule=[1, 0][held.rule]))
+
+    def clash(self, held, p, q):
+        by = held.set_of(held.laid)
+        joined = held.number_of(held.set_of(p) & held.set_of(q))
+        return [int([held.right_by(by, part) for part in (p, q, joined)] == [1, 1, 0])]
+
+    def clashes(self, held):
+        told = [held.right_by(held.set_of(held.laid), p) for p in held.everything()]
+        return [sum((told[p], told[q], told[p & q]) == (1, 1, 0) for p in held.everything() for q in range(p))]
+
+    def verdict(self, held):
+        return [{(0, 0): 0, (1, 0): 1, (1, 1): 2, (0, 1): 3}[(
+            int(held.all_bad() != []), int(len(held.stands(held.log)) == 0),
+        )]]
+
+    def letter(self, held, i):
+        if i >= self.start[0]:
+            return [-2]
+        return [held.number_of(w for w in range(held.worlds) if w // 2 ** i % 2 == 1)]
+
+    def reckoned(self, held, propositions, is_so):
+        if not all(held.fits(p) for p in propositions):
+            return [-22]
+        sets = [held.set_of(p) for p in propositions]
+        return [held.number_of(w for w in range(held.worlds) if is_so(*[w in worlds for worlds in sets]))]
+
+    def not_of(self, held, p):
+        return self.reckoned(held, (p,), lambda a: not a)
+
+    def both(self, held, p, q):
+        return self.reckoned(held, (p, q), lambda a, b: a and b)
+
+    def either(self, held, p, q):
+        return self.reckoned(held, (p, q), lambda a, b: a or b)
+
+    def if_then(self, held, p, q):
+        return self.reckoned(held, (p, q), lambda a, b: not a or b)
+
+    def sums(self, held):
+        return [len(held.over), sum(caught for caught, bad in held.over), sum(bad for caught, bad in held.over)]
+
+    def state(self, held):
+        return [
+            self.start[0], held.number_of(held.known), held.rule, held.laid or 0, len(held.log), self.free,
+            len(self.undone), *held.stock,
+        ]
+
 
 def told_by_reference(calls):
     reference = Reference()
     return [reference.call(*call) for call in calls]
+
+
+def number(chance, least, most):
+    """Mostly one that fits; now and then the next one above, or the greatest that can be handed in."""
+    return chance.choice([most + 1, TOP]) if chance.random() < 0.04 else chance.randint(least, most)
+
+
+def proposition(chance, letters):
+    return number(chance, 0, 2 ** 2 ** letters - 1)
+
+
+def drawn_call(chance, letters, name):
+    p = proposition(chance, letters)
+    if name == "begin":
+        return (name, number(chance, 0, 3), p)
+    if name == "rule":
+        return (name, number(chance, 0, 1))
+    if name in ("answers", "amend"):
+        first = p if name == "answers" else number(chance, 0, 3)
+        return (name, first, number(chance, 0, 2))
+    if name in ("strike", "log"):
+        return (name, number(chance, 0, 4))
+    if name in ("stock", "row"):
+        size = number(chance, 0, 6) % 10
+        return (name, [proposition(chance, letters) if i < 8 else p for i in range(size)])
+    if name == "from_stock":
+        return (name, number(chance, 0, 2), p)
+    if name in ("laid", "known"):
+        return (name, number(chance, 0, chance.choice([0, 3, p])))
+    if name == "letter":
+        return (name, number(chance, 0, letters - 1))
+    if name in ("clash", "both", "either", "if_then"):
+        return (name, p, proposition(chance, letters))
+    if name in ("right", "concede", "deny", "may", "not_of", "lay", "propose", "press", "learn"):
+        return (name, p)
+    return (name,)
+
+
+def drawn_name(chance):
+    kinds = (
+        (("lay",), 2), (("propose", "answers", "press"), 7), (CHANGES, 5), (("back",), 2), (("again",), 1),
+        (ASKED, 14), (("begin",), 0.1),
+    )
+    return chance.choice(chance.choices([names for names, weight in kinds], [weight for names, weight in kinds])[0])
+
+
+def drawn_line(chance, letters, least=20, most=45):
+    calls = [("begin", letters, chance.randint(1, 2 ** 2 ** letters - 1)), ("rule", chance.randint(0, 1))]
+    if chance.random() < 0.8:
+        calls += [drawn_call(chance, letters, "stock"), drawn_call(chance, letters, "lay")]
+    if chance.random() < 0.05:
+        calls = calls[1:]
+    size = chance.randint(least, most)
+    while len(calls) < size:
+        calls.append(drawn_call(chance, letters, drawn_name(chance)))
+    return calls

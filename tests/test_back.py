@@ -16,7 +16,9 @@ CHANGES = [
 
 class Back(unittest.TestCase):
     def looks(self, *calls):
-        return ask(*calls, *LOOKS)[len(calls):]
+        told = ask(*calls, ("state",), *LOOKS)[len(calls):]
+        del told[0][5:7]
+        return told
 
     def test_every_kind_of_change_is_there(self):
         self.assertEqual(len({change[0] for setup, change in CHANGES}), 10)

@@ -7,12 +7,17 @@ from tests.support import NAMES, TOP, ask, check_refused, last
 OTHERS = [
     ("rule", 0), ("lay", 1), ("propose", 1), ("answers", 1, 1), ("press", 1), ("strike", 0), ("amend", 0, 1),
     ("learn", 1), ("stock", [1]), ("finish",), ("back",), ("again",), ("right", 1), ("row", [1]), ("stands",),
-    ("log", 0), ("concede", 1), ("deny", 1), ("may", 1), ("false",), ("from_stock", 1, 1),
+    ("log", 0), ("concede", 1), ("deny", 1), ("may", 1), ("false",), ("from_stock", 1, 1), ("reach",), ("bad",),
+    ("first",), ("caught",), ("mended",), ("least",), ("laids",), ("laid", 0), ("knowns",), ("known", 0), ("other",),
+    ("clash", 1, 1), ("clashes",), ("verdict",), ("letter", 0), ("not_of", 1), ("both", 1, 1), ("either", 1, 1),
+    ("if_then", 1, 1), ("sums",), ("state",),
 ]
 WRONG_OTHERS = [
     ("rule", TOP), ("lay", TOP), ("propose", TOP), ("answers", TOP, TOP), ("press", TOP), ("strike", TOP),
     ("amend", TOP, TOP), ("learn", TOP), ("stock", [TOP] * 7), ("right", TOP), ("row", [TOP] * 9), ("log", TOP),
-    ("concede", TOP), ("deny", TOP), ("may", TOP), ("from_stock", TOP, TOP),
+    ("concede", TOP), ("deny", TOP), ("may", TOP), ("from_stock", TOP, TOP), ("laid", TOP), ("known", TOP),
+    ("clash", TOP, TOP), ("letter", TOP), ("not_of", TOP), ("both", TOP, TOP), ("either", TOP, TOP),
+    ("if_then", TOP, TOP),
 ]
 WRONG_BEGINS = [
     ("begin", 0, 1), ("begin", 4, 1), ("begin", TOP, 1), ("begin", 1, 4), ("begin", 2, 16), ("begin", 3, 256),
@@ -51,14 +56,19 @@ class Begin(unittest.TestCase):
             check_refused(self, setup, call, -22)
 
     def test_new_begin_forgets_all(self):
-        before = [("begin", 2, 1), ("rule", 1), ("stock", [3, 6]), ("lay", 14), ("propose", 10), ("propose", 3), ("back",)]
+        before = [
+            ("begin", 2, 1), ("rule", 1), ("stock", [3, 6]), ("lay", 14), ("answers", 15, 0), ("finish",), ("lay", 14),
+            ("propose", 10), ("propose", 3), ("back",),
+        ]
         behind = [
             ("begin", 2, 15), ("back",), ("again",), ("stands",), ("rule", 0), ("lay", 14), ("log", 0),
-            ("from_stock", 1, 3), ("stands",), ("right", 10),
+            ("from_stock", 1, 3), ("stands",), ("right", 10), ("sums",), ("bad",), ("state",),
         ]
         told = ask(*before, *behind)[len(before):]
         self.assertEqual(told, ask(*behind))
-        self.assertEqual(told, [[0], [-6], [-6], [-6], [0], [2], [-2], [-33], [3, 14], [2, 0]])
+        self.assertEqual(told, [
+            [0], [-6], [-6], [-6], [0], [2], [-2], [-33], [3, 14], [2, 0], [0, 0, 0], [0], [2, 15, 0, 14, 0, 2, 0],
+        ])
 
     def test_new_begin_takes_other_letters(self):
         self.assertEqual(last(("begin", 1, 1), ("lay", 2), ("begin", 3, 255), ("lay", 255)), [1])
@@ -67,6 +77,7 @@ class Begin(unittest.TestCase):
     def test_first_state(self):
         told = ask(("begin", 2, 5), ("back",), ("again",), ("rule", 0), ("stands",), ("learn", 15), ("lay", 15), ("log", 0))
         self.assertEqual(told, [[0], [-6], [-6], [0], [-6], [2], [1], [-2]])
+        self.assertEqual(ask(("begin", 2, 5), ("state",), ("sums",)), [[0], [2, 5, 0, 0, 0, 0, 0], [0, 0, 0]])
 
 
 if __name__ == "__main__":

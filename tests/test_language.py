@@ -168,6 +168,20 @@ class Language(unittest.TestCase):
                 self.assertIn(node.attr, methods | values | OWN_METHODS, (path, node.lineno))
                 self.assertNotIn(node.attr, UNUSED)
 
+    def test_walked_at_once(self):
+        for path, tree in trees():
+            walked = []
+            for node in nodes(tree, ast.For, ast.comprehension):
+                walked.append(node.iter)
+            for node in nodes(tree, ast.Call):
+                name = getattr(node.func, "id", "")
+                if name in ("list", "tuple", "dict", "sorted", "sum", "any", "all", "enumerate", "zip", "min", "max"):
+                    walked.append(node.args[0])
+            for node in nodes(tree, ast.Call):
+                name = getattr(node.func, "id", getattr(node.func, "attr", ""))
+                if name in ("zip", "enumerate", "reversed", "range", "items", "keys", "values"):
+                    self.assertIn(node, walked, (path, node.lineno))
+
     def test_signs(self):
         for path, tree in trees():
             for node in nodes(tree, ast.Compare):

@@ -1,5 +1,6 @@
-"""right to from_stock (promise 3). Two letters are as in test_changes."""
+"""right to reach (promise 3). Two letters are as in test_changes."""
 
+import itertools
 import unittest
 
 from tests.support import TOP, ask, check_refused, last
@@ -210,6 +211,57 @@ class FromStock(Questions):
         for a, t in ((0, 0), (2, 15)):
             check_refused(self, FREE, ("from_stock", a, t), -6)
         check_refused(self, HELD, ("from_stock", 2, 10), -33)
+
+
+class Reach(Questions):
+    def check(self, many, *calls):
+        self.assertEqual(last(*calls, ("reach",)), [many], calls)
+
+    def test_told(self):
+        self.check(3, *HELD)
+        self.check(1, *CAUGHT)
+        self.check(4, *HELD, ("stock", [2, 4]))
+        self.check(2, *DOUBTFUL, ("stock", [9]))
+        self.check(1, *DOUBTFUL, ("stock", [10]))
+        self.check(2, ("begin", 1, 1), ("stock", [2]), ("lay", 3))
+        self.check(1, ("begin", 1, 1), ("stock", [2]), ("lay", 2))
+
+    def test_empty_stock(self):
+        self.check(1, *HELD, ("stock", []))
+        self.check(1, ("begin", 3, 255), ("lay", 255))
+
+    def test_by_rule_0_whatever_the_rule_is(self):
+        self.check(3, *RULE_1)
+        # By rule 1 all six would be denied, and nothing stand; by rule 0 something always does.
+        six = [1, 2, 4, 8, 3, 12]
+        for rule in (0, 1):
+            self.check(7, ("begin", 2, 1), ("rule", rule), ("stock", [2, 4, 8, 2, 4, 8]), ("lay", 14))
+            self.check(8, ("begin", 2, 1), ("rule", rule), ("stock", six), ("lay", 15))
+
+    def test_the_rule_stays(self):
+        self.assertEqual(ask(*RULE_1, ("propose", 10), ("reach",), ("right", 12))[5:], [[1], [0, 0]])
+
+    def test_from_what_stands_now(self):
+        self.check(3, *HELD, ("answers", 15, 2))
+        self.check(1, *HELD, ("propose", 3))
+        self.check(2, *HELD, ("stock", [2, 4]), ("propose", 2))
+
+    def test_all_six(self):
+        self.check(64, ("begin", 3, 1), ("stock", [2, 4, 8, 16, 32, 64]), ("lay", 254))
+        self.check(1, ("begin", 3, 255), ("stock", [2, 4, 8, 16, 32, 64]), ("lay", 254))
+
+    def test_by_walking_through_rows(self):
+        for known, laid, stock in ((1, 14, [2, 4, 8]), (1, 14, [3, 6]), (9, 14, [7, 13, 11]), (4, 11, [5, 6, 12])):
+            held = [("begin", 2, known), ("lay", laid)]
+            found = set()
+            for size in range(5):
+                for row in itertools.product(stock, repeat=size):
+                    found.add(tuple(last(*held, *[("propose", p) for p in row], ("stands",))))
+            self.check(len(found), *held, ("stock", stock))
+
+    def test_refused(self):
+        check_refused(self, FREE, ("reach",), -6)
+        check_refused(self, HELD + [("finish",)], ("reach",), -6)
 
 
 if __name__ == "__main__":
